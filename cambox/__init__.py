@@ -1,0 +1,1 @@
+"""Sums of cams: what the calls on one box of cams answer."""
