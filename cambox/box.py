@@ -1,5 +1,7 @@
 """The box: how many places its cams have, the cams, and the motion wished."""
 
+from cambox.plans import best_of, cams_on, gaps_of, motion_of, off_at_worst, off_in_all, plans_with_gaps
+
 WRONG = -1
 FULL = -5
 
@@ -11,12 +13,12 @@ HIGHEST_OF_CAM = 100
 HIGHEST_WISHED = 400
 
 
-def is_motion(heights, places, highest):
-    """Tell whether there is a height for each place, and none above the highest."""
-    if len(heights) != places:
+def is_row(numbers, length, highest):
+    """Tell whether there are so many numbers, and none above the highest."""
+    if len(numbers) != length:
         return False
-    for height in heights:
-        if height > highest:
+    for number in numbers:
+        if number > highest:
             return False
     return True
 
@@ -41,7 +43,7 @@ class Box:
     def cam(self, heights):
         """Put in one cam more, and answer its number."""
         # The document tells the wrong list first, so a full box is asked for last.
-        if not is_motion(heights, self.places, HIGHEST_OF_CAM):
+        if not is_row(heights, self.places, HIGHEST_OF_CAM):
             return [WRONG]
         if len(self.cams) == MOST_CAMS:
             return [FULL]
@@ -50,7 +52,25 @@ class Box:
 
     def wish(self, heights):
         """Keep the motion that is wished from now on."""
-        if not is_motion(heights, self.places, HIGHEST_WISHED):
+        if not is_row(heights, self.places, HIGHEST_WISHED):
             return [WRONG]
         self.wished = heights
         return [0]
+
+    def sum_of(self, plan):
+        """Tell how far the motion of a plan is off, in all and at the worst, and the motion."""
+        if not is_row(plan, len(self.cams), self.places):
+            return [WRONG]
+        motion = motion_of(plan, self.cams, self.places)
+        gaps = gaps_of(motion, self.wished)
+        return [off_in_all(gaps), off_at_worst(gaps)] + motion
+
+    def nearest(self):
+        """Tell of the plan that is the least off in all."""
+        plans = plans_with_gaps(self.cams, self.wished)
+        return best_of([(off_in_all(gaps), cams_on(plan, self.places), plan) for plan, gaps in plans])
+
+    def evenest(self):
+        """Tell of the plan that is the least off at the worst."""
+        plans = plans_with_gaps(self.cams, self.wished)
+        return best_of([(off_at_worst(gaps), cams_on(plan, self.places), plan) for plan, gaps in plans])

@@ -6,10 +6,13 @@ from cambox.reading import Reader
 BEGINS = 0
 CAM = 1
 WISH = 2
+SUM = 3
+NEAREST = 4
+EVENEST = 5
 
 
 class UnknownCall(Exception):
-    """A call has a number that is not answered here."""
+    """A call has a number that is none of those told."""
 
 
 def answer(box, reader):
@@ -21,6 +24,12 @@ def answer(box, reader):
         return box.cam(reader.row())
     if call == WISH:
         return box.wish(reader.row())
+    if call == SUM:
+        return box.sum_of(reader.row())
+    if call == NEAREST:
+        return box.nearest()
+    if call == EVENEST:
+        return box.evenest()
     # Where the next call begins can't be told behind one that isn't known.
     raise UnknownCall(f"no call has the number {call}")
 

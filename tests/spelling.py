@@ -17,6 +17,18 @@ def wish(*heights):
     return [2, len(heights), *heights]
 
 
+def sum_of(*plan):
+    return [3, len(plan), *plan]
+
+
+def nearest():
+    return [4]
+
+
+def evenest():
+    return [5]
+
+
 def in_one_list(calls):
     return [number for call in calls for number in call]
 
